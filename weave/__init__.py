@@ -1,0 +1,1 @@
+"""Portweave: nets of boxes, and rules that put one net in another's place."""
