@@ -66,3 +66,32 @@ def bent(thing):
         yield from (None, 0, True, (), [], (thing,), [thing], "", thing.upper() + "A", thing + " ")
     else:
         yield from (None, str(thing), (thing,), [thing], True, False, "")
+
+
+def shuffled(net, order):
+    """The net with its box b called order[b]: alike to it by that naming."""
+    outers, boxes, wires, rings = net
+    kinds = [None] * len(boxes)
+    for box, kind in enumerate(boxes):
+        kinds[order[box]] = kind
+    ends = [[(box if box < 0 else order[box], port) for box, port in wire] for wire in wires]
+    return outers, tuple(kinds), tuple(sorted(tuple(sorted(pair)) for pair in ends)), rings
+
+
+def some_net(chance, most):
+    """A net of a few boxes of one sort, its ends joined by chance, by a source that tells the same each time."""
+    kinds = {"add": "++-", "cut": "-", "dup": "+--", "neg": "+-", "one": "+"}
+    boxes = [chance.choice(sorted(kinds)) for _ in range(chance.randint(0, most))]
+    ends = {"+": [], "-": []}
+    for box, kind in enumerate(boxes):
+        for port, side in enumerate(kinds[kind]):
+            ends[side].append((box, port))
+    outers = [chance.choice("+-") for _ in range(chance.randint(0, 2))]
+    outers += ["+"] * (len(ends["-"]) + outers.count("-") - len(ends["+"]) - outers.count("+"))
+    outers += ["-"] * (len(ends["+"]) + outers.count("+") - len(ends["-"]) - outers.count("-"))
+    for at, side in enumerate(outers):
+        ends[side].append((-1, at))
+    chance.shuffle(ends["-"])
+    wires = tuple(sorted(tuple(sorted(pair)) for pair in zip(ends["+"], ends["-"])))
+    rings = chance.choice(((), (), (), (("n", 1),), (("m", 2), ("n", 1))))
+    return tuple(("n", side) for side in outers), tuple(boxes), wires, rings

@@ -114,7 +114,7 @@ class ReadNetTest(unittest.TestCase):
     def test_names_of_wires(self):
         for name in ("", "A", "a_", "-", "+", "a-b", "123456789", "abcdefghi", ";", ",", "0,", "=", ".", "a.b"):
             self.check_none(f"neg {name} {name} ; - ; -", f"- ; +n {name}, -n {name} ; -")
-            self.check_none(f"neg {name} b, neg b {name} ; - ; -", f"add b {name} c, dup c {name} b ; - ; -")
+            self.check_none(f"neg {name} b, neg b {name} ; - ; -", f"one {name}, cut {name} ; - ; -")
         for name in ("a", "0", "00", "12345678", "abcdefgh", "z9"):
             self.assertEqual(read_net(STOCK, f"neg {name} {name} ; - ; -"), ((), ("neg",), LOOP[2], ()))
             self.assertEqual(read_net(STOCK, f"- ; +n {name}, -n {name} ; -"), THROUGH)

@@ -98,6 +98,23 @@ def wires_of(pairs):
     return tuple(sorted(wire_of(one, other) for one, other in pairs))
 
 
+def called(naming, end):
+    """An end by the name that a naming has for its box; outers by themselves."""
+    box, port = end
+    return end if box == OUTER else (naming[box], port)
+
+
+def renamed(wires, naming):
+    """The wires, each end called so and each wire set anew, in order."""
+    return wires_of([(called(naming, one), called(naming, other)) for one, other in wires])
+
+
+def outer_wires(net):
+    """The wires between two outers."""
+    # The lesser end stands first, and outers are less than ports.
+    return [wire for wire in net[2] if wire[1][0] == OUTER]
+
+
 def rings_of(sorts):
     """The rings of a list of sorts, each one a ring."""
     return tuple((sort, sorts.count(sort)) for sort in sorted(set(sorts)))
