@@ -78,20 +78,87 @@ def shuffled(net, order):
     return outers, tuple(kinds), tuple(sorted(tuple(sorted(pair)) for pair in ends)), rings
 
 
-def some_net(chance, most):
-    """A net of a few boxes of one sort, its ends joined by chance, by a source that tells the same each time."""
-    kinds = {"add": "++-", "cut": "-", "dup": "+--", "neg": "+-", "one": "+"}
-    boxes = [chance.choice(sorted(kinds)) for _ in range(chance.randint(0, most))]
+SIDES = {"add": "++-", "cut": "-", "dup": "+--", "neg": "+-", "one": "+"}
+
+
+def ends_by_side(boxes, outers):
+    """The ports of the boxes, then the outers, by their sides."""
     ends = {"+": [], "-": []}
     for box, kind in enumerate(boxes):
-        for port, side in enumerate(kinds[kind]):
+        for port, side in enumerate(SIDES[kind]):
             ends[side].append((box, port))
-    outers = [chance.choice("+-") for _ in range(chance.randint(0, 2))]
-    outers += ["+"] * (len(ends["-"]) + outers.count("-") - len(ends["+"]) - outers.count("+"))
-    outers += ["-"] * (len(ends["+"]) + outers.count("+") - len(ends["-"]) - outers.count("-"))
     for at, side in enumerate(outers):
         ends[side].append((-1, at))
+    return ends
+
+
+def joined_by_chance(chance, boxes, outers):
+    """A net of these boxes and outers, told by their sides, as many of the one as of the other, joined by chance."""
+    ends = ends_by_side(boxes, outers)
     chance.shuffle(ends["-"])
     wires = tuple(sorted(tuple(sorted(pair)) for pair in zip(ends["+"], ends["-"])))
     rings = chance.choice(((), (), (), (("n", 1),), (("m", 2), ("n", 1))))
     return tuple(("n", side) for side in outers), tuple(boxes), wires, rings
+
+
+def some_net(chance, most):
+    """A net of a few boxes of one sort, its ends joined by chance, by a source that tells the same each time."""
+    boxes = [chance.choice(sorted(SIDES)) for _ in range(chance.randint(0, most))]
+    outers = [chance.choice("+-") for _ in range(chance.randint(0, 2))]
+    ends = ends_by_side(boxes, outers)
+    outers += ["+"] * (len(ends["-"]) - len(ends["+"])) + ["-"] * (len(ends["+"]) - len(ends["-"]))
+    return joined_by_chance(chance, boxes, outers)
+
+
+def net_with_outers(chance, specs, most):
+    """A net of these outers, all of the sort n, by chance."""
+    outers = [side for _, side in specs]
+    boxes = [chance.choice(sorted(SIDES)) for _ in range(chance.randint(0, most))]
+    ends = ends_by_side(boxes, outers)
+    boxes += ["one"] * (len(ends["-"]) - len(ends["+"])) + ["cut"] * (len(ends["+"]) - len(ends["-"]))
+    return joined_by_chance(chance, boxes, outers)
+
+
+def tied_boxes(chance, net, most):
+    """Boxes of the net that hang together by the told wires, chosen by chance, and these wires."""
+    place, tied = [chance.randrange(len(net[1]))], []
+    for _ in range(chance.randint(0, most - 1)):
+        leading = [wire for wire in net[2] if wire[0][0] >= 0 and (wire[0][0] in place) != (wire[1][0] in place)]
+        if leading:
+            wire = chance.choice(leading)
+            tied.append(wire)
+            place += [box for box, _ in wire if box not in place]
+    return chance.sample(place, len(place)), tied
+
+
+def pattern_in(chance, net):
+    """A pattern that has a place in the net, and the place; not each wire of the net there is one of the pattern."""
+    place, kept = tied_boxes(chance, net, 3)
+    kept += [wire for wire in net[2] if wire[0][0] in place and wire[1][0] in place and chance.random() < 0.5]
+    calls = {box: at for at, box in enumerate(place)}
+    inner = {tuple(sorted((calls[box], port) for box, port in wire)) for wire in kept}
+    boxes = tuple(net[1][box] for box in place)
+    taken = {end for wire in inner for end in wire}
+    free = [(box, port) for box, kind in enumerate(boxes) for port in range(len(SIDES[kind])) if (box, port) not in taken]
+    chance.shuffle(free)
+    outers = tuple(("n", "-+"["+-".index(SIDES[boxes[box]][port])]) for box, port in free)
+    edge = [((-1, at), end) for at, end in enumerate(free)]
+    return (outers, boxes, tuple(sorted(edge + list(inner))), ()), tuple(place)
+
+
+def some_rules(chance, net, many):
+    """Rules that have places in the net, by chance, and for each of them a place."""
+    rules, places = [], []
+    for _ in range(many):
+        left, place = pattern_in(chance, net)
+        rules.append((left, net_with_outers(chance, left[0], 3)))
+        places.append(place)
+    return rules, places
+
+
+def some_full_net(chance, most):
+    """A net by chance with at least one box."""
+    while True:
+        told = some_net(chance, most)
+        if told[1]:
+            return told

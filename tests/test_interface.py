@@ -15,6 +15,14 @@ LISTED = {
     "alike": ("is_naming(one, other, naming)", "naming_of(one, other)"),
     "unlike": ("unlike_of(one, other)", "shows_unlike(stock, one, other, paper)"),
     "rules": ("is_pattern(net)", "is_rule(stock, thing)", "rule_of(left, right)"),
+    "places": ("place_at(net, left, box)", "places_of(net, left)", "is_place(net, left, place)"),
+    "laying": ("laid(net, rule, place)", "stay_behind(net, place)"),
+    "rows": ("walked(rules, net, rows)", "both_ways(rules, net, one, other)"),
+    "roads": ("road_end(stock, rules, net, road)",),
+    "weights": (
+        "is_weight(stock, thing)", "weighs(stock, weight, net)", "falls(stock, weight, rule)", "weighed(stock, rules)",
+        "shows_weighed(stock, rules, thing)",
+    ),
 }
 
 

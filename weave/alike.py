@@ -2,14 +2,14 @@
 
 from weave.nets import renamed
 from weave.parts import lies_at, part_at, parts_of, together
-from weave.things import is_whole
+from weave.things import are_whole
 
 
 def names_boxes(one, other, naming):
     """Whether it has for each box of the one a box of the other, each just once, of anything."""
-    if not isinstance(naming, tuple) or not all(is_whole(box) for box in naming):
+    if not are_whole(naming) or len(naming) != len(one[1]):
         return False
-    return len(naming) == len(one[1]) and sorted(naming) == list(range(len(other[1])))
+    return sorted(naming) == list(range(len(other[1])))
 
 
 def is_naming(one, other, naming):

@@ -2,14 +2,14 @@
 
 from weave.errors import NoNet
 from weave.stock import are_specs, is_name, mate_of
-from weave.things import is_tuple, is_whole, rises
+from weave.things import are_whole, is_tuple, is_whole, rises
 
 OUTER = -1
 
 
 def is_end(thing):
     """Whether it is a tuple of two whole numbers, of anything."""
-    return is_tuple(thing, 2) and is_whole(thing[0]) and is_whole(thing[1])
+    return is_tuple(thing, 2) and are_whole(thing)
 
 
 def is_pair(thing):
@@ -113,6 +113,11 @@ def outer_wires(net):
     """The wires between two outers."""
     # The lesser end stands first, and outers are less than ports.
     return [wire for wire in net[2] if wire[1][0] == OUTER]
+
+
+def inner_wires(net):
+    """The wires between two ports."""
+    return [wire for wire in net[2] if wire[0][0] != OUTER]
 
 
 def rings_of(sorts):

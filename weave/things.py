@@ -6,6 +6,11 @@ def is_whole(thing):
     return isinstance(thing, int) and not isinstance(thing, bool)
 
 
+def are_whole(thing):
+    """Whether it is a tuple of whole numbers."""
+    return isinstance(thing, tuple) and all(is_whole(number) for number in thing)
+
+
 def is_tuple(thing, many):
     """Whether it is a tuple of so many things."""
     return isinstance(thing, tuple) and len(thing) == many
