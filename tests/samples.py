@@ -1,5 +1,8 @@
 """Stocks, nets and odd things that several tests use."""
 
+from weave.rules import rule_of
+from weave.texts import read_net
+
 PLUS = ("n", "+")
 MINUS = ("n", "-")
 
@@ -50,6 +53,14 @@ ANYTHING = (
     ([], [], [], []), (0, 1), (0, 0), [0, 1], ((0, 1), (0, 2)), ("outers", None), (None, None, None, None), DEEP, [DEEP],
     (DEEP, DEEP), (DEEP, DEEP, DEEP, DEEP), ("part", DEEP, 1, 2), ("wire", DEEP, DEEP),
 )
+
+
+def net(text):
+    return read_net(STOCK, text)
+
+
+def rule(left, right):
+    return rule_of(net(left), net(right))
 
 
 def bent(thing):

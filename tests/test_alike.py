@@ -4,14 +4,9 @@ import itertools
 import random
 import unittest
 
-from tests.samples import ANYTHING, EMPTY, NETS, STOCK, THROUGH, bent, shuffled, some_net
+from tests.samples import ANYTHING, EMPTY, NETS, STOCK, THROUGH, bent, net, shuffled, some_net
 from weave.alike import is_naming, naming_of
 from weave.nets import is_net
-from weave.texts import read_net
-
-
-def net(text):
-    return read_net(STOCK, text)
 
 
 def is_naming_as_told(one, other, naming):

@@ -23,6 +23,10 @@ LISTED = {
         "is_weight(stock, thing)", "weighs(stock, weight, net)", "falls(stock, weight, rule)", "weighed(stock, rules)",
         "shows_weighed(stock, rules, thing)",
     ),
+    "overlaps": ("sharings(one, other)", "overlaps(rules)", "is_overlap(rules, thing)", "shared(place, other)"),
+    "glued": ("glued(stock, rules, overlap)", "outcomes(stock, rules, overlap)"),
+    "ends": ("at_rest(rules, net)", "run(rules, net)"),
+    "joins": ("joins(stock, rules)",),
 }
 
 

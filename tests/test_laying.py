@@ -3,21 +3,11 @@
 import random
 import unittest
 
-from tests.samples import ANYTHING, STOCK, THROUGH, bent, some_full_net, some_rules
+from tests.samples import ANYTHING, STOCK, THROUGH, bent, net, rule, some_full_net, some_rules
 from weave.errors import NoPlace
 from weave.laying import laid, stay_behind
 from weave.nets import is_net
 from weave.places import places_of
-from weave.rules import rule_of
-from weave.texts import read_net
-
-
-def net(text):
-    return read_net(STOCK, text)
-
-
-def rule(left, right):
-    return rule_of(net(left), net(right))
 
 
 NEG = "neg a b ; -n a, +n b ; -"

@@ -4,13 +4,8 @@ import itertools
 import random
 import unittest
 
-from tests.samples import ANYTHING, EMPTY, LOOP, NETS, SAMPLE, STOCK, THROUGH, bent, shuffled, some_net
+from tests.samples import ANYTHING, EMPTY, LOOP, NETS, SAMPLE, STOCK, THROUGH, bent, net, shuffled, some_net
 from weave.parts import is_part, lies_at, part_at, together
-from weave.texts import read_net
-
-
-def net(text):
-    return read_net(STOCK, text)
 
 
 def some_nets(many, most):

@@ -4,15 +4,10 @@ import itertools
 import random
 import unittest
 
-from tests.samples import ANYTHING, EMPTY, STOCK, THROUGH, WIDE, bent, pattern_in, some_full_net, some_net
+from tests.samples import ANYTHING, EMPTY, STOCK, THROUGH, WIDE, bent, net, pattern_in, some_full_net, some_net
 from weave.nets import is_net
 from weave.places import is_place, place_at, places_of
 from weave.rules import is_pattern
-from weave.texts import read_net
-
-
-def net(text):
-    return read_net(STOCK, text)
 
 
 ONE = net("neg a b ; -n a, +n b ; -")

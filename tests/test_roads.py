@@ -4,21 +4,11 @@ import copy
 import random
 import unittest
 
-from tests.samples import ANYTHING, EMPTY, STOCK, bent, shuffled, some_full_net, some_rules
+from tests.samples import ANYTHING, EMPTY, STOCK, bent, net, rule, shuffled, some_full_net, some_rules
 from weave.errors import NoRoad
 from weave.laying import laid
 from weave.places import places_of
 from weave.roads import road_end
-from weave.rules import rule_of
-from weave.texts import read_net
-
-
-def net(text):
-    return read_net(STOCK, text)
-
-
-def rule(left, right):
-    return rule_of(net(left), net(right))
 
 
 RULES = [

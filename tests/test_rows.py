@@ -4,23 +4,13 @@ import copy
 import random
 import unittest
 
-from tests.samples import ANYTHING, EMPTY, STOCK, bent, some_full_net, some_rules
+from tests.samples import ANYTHING, EMPTY, STOCK, bent, net, rule, some_full_net, some_rules
 from weave.alike import is_naming
 from weave.errors import NoRow, Shared
 from weave.laying import laid
 from weave.nets import is_net
 from weave.places import places_of
 from weave.rows import both_ways, walked
-from weave.rules import rule_of
-from weave.texts import read_net
-
-
-def net(text):
-    return read_net(STOCK, text)
-
-
-def rule(left, right):
-    return rule_of(net(left), net(right))
 
 
 NEG = "neg a b ; -n a, +n b ; -"
@@ -67,6 +57,9 @@ class WalkedTest(unittest.TestCase):
             self.check_refused(CHAIN, [(number, (0,))], 0)
         with self.assertRaises(NoRow):
             walked([], CHAIN, [(0, (0,))])
+        for number in (-1, 1, False):
+            with self.assertRaises(NoRow):
+                walked(RULES[1:2], CHAIN, [(number, (0,))])
 
     def test_rows_of_anything(self):
         right = (0, (0, 1))

@@ -2,14 +2,9 @@
 
 import unittest
 
-from tests.samples import ANYTHING, EMPTY, LOOP, NETS, SAMPLE, STOCK, THROUGH, bent
+from tests.samples import ANYTHING, EMPTY, LOOP, NETS, SAMPLE, STOCK, THROUGH, bent, net
 from weave.errors import NoRule
 from weave.rules import is_pattern, is_rule, rule_of
-from weave.texts import read_net
-
-
-def net(text):
-    return read_net(STOCK, text)
 
 
 PATTERNS = [net(text) for text in (

@@ -4,16 +4,11 @@ import itertools
 import random
 import unittest
 
-from tests.samples import ANYTHING, LOOP, NETS, SAMPLE, STOCK, bent, shuffled, some_net
+from tests.samples import ANYTHING, LOOP, NETS, SAMPLE, STOCK, bent, net, shuffled, some_net
 from weave.alike import is_naming, naming_of
 from weave.nets import is_net
 from weave.parts import part_at
-from weave.texts import read_net
 from weave.unlike import shows_unlike, unlike_of
-
-
-def net(text):
-    return read_net(STOCK, text)
 
 
 TEXTS = (

@@ -5,20 +5,11 @@ import itertools
 import random
 import unittest
 
-from tests.samples import ANYTHING, EMPTY, LOOP, STOCK, bent, some_full_net, some_rules
+from tests.samples import ANYTHING, EMPTY, LOOP, STOCK, bent, net, rule, some_full_net, some_rules
 from weave.laying import laid
 from weave.places import places_of
-from weave.rules import is_rule, rule_of
-from weave.texts import read_net
+from weave.rules import is_rule
 from weave.weights import falls, is_weight, shows_weighed, weighed, weighs
-
-
-def net(text):
-    return read_net(STOCK, text)
-
-
-def rule(left, right):
-    return rule_of(net(left), net(right))
 
 
 # The kinds of the stock in order: add, cut, dup, neg, one, two.

@@ -5,7 +5,7 @@ from weave.things import are_whole
 
 
 def fits(net, links, left, place):
-    """Whether whole numbers, as many as left has boxes, are a place; links are those of the net's wires."""
+    """Whether a tuple of whole numbers is a place; links are those of the net's wires."""
     boxes = net[1]
     if len(set(place)) != len(place) or not all(0 <= box < len(boxes) for box in place):
         return False
@@ -44,6 +44,4 @@ def places_of(net, left):
 
 def is_place(net, left, place):
     """Whether it is a place of a pattern, of anything."""
-    if not are_whole(place) or len(place) != len(left[1]):
-        return False
-    return fits(net, links_of(net[2]), left, place)
+    return are_whole(place) and fits(net, links_of(net[2]), left, place)
