@@ -1,7 +1,7 @@
 """Stocks, nets and odd things that several tests use."""
 
 from weave.rules import rule_of
-from weave.texts import read_net
+from weave.texts import read_net, read_stock
 
 PLUS = ("n", "+")
 MINUS = ("n", "-")
@@ -173,3 +173,54 @@ def some_full_net(chance, most):
         told = some_net(chance, most)
         if told[1]:
             return told
+
+
+# Kinds of one port in and one out: a row of them is written as a word of their letters.
+CHAINS = read_stock([letter + " = +n -n" for letter in "abcde"])
+
+
+def chain(word):
+    """The net of a row of boxes, each one's port 1 leading to port 0 of the next one."""
+    boxes = ", ".join(f"{letter} w{at} w{at + 1}" for at, letter in enumerate(word))
+    return read_net(CHAINS, f"{boxes or '-'} ; -n w0, +n w{len(word)} ; -")
+
+
+def chain_rule(left, right):
+    return rule_of(chain(left), chain(right))
+
+
+def word_of(net):
+    """The word of a net that is one row of boxes from outer to outer, in whatever order they stand."""
+    links = {}
+    for one, other in net[2]:
+        links[one], links[other] = other, one
+    enters = net[0].index(MINUS)
+    word, end = "", links[(-1, enters)]
+    while end[0] >= 0:
+        word += net[1][end[0]]
+        end = links[(end[0], 1)]
+    return word
+
+
+def bends(thing, path=()):
+    """Tuples (path, bent): copies of a thing of tuples, lists, texts and numbers in which just one spot is another."""
+    if isinstance(thing, (tuple, list)):
+        kind = type(thing)
+        yield path, (list if kind is tuple else tuple)(thing)
+        yield path, thing + kind((None,))
+        for at, inner in enumerate(thing):
+            yield path, thing[:at] + thing[at + 1:]
+            for where, other in bends(inner, path + (at,)):
+                yield where, thing[:at] + kind((other,)) + thing[at + 1:]
+    elif isinstance(thing, int):
+        for other in (thing + 1, thing - 1, str(thing), [thing]):
+            yield path, other
+        if thing in (0, 1):
+            yield path, bool(thing)
+    else:
+        for other in ("", thing + "s", "b", None, (thing,)):
+            if other != thing:
+                yield path, other
+    for other in (None, 0, True, "a", (), []):
+        if other != thing or type(other) is not type(thing):
+            yield path, other

@@ -138,6 +138,25 @@ class LanguageTest(unittest.TestCase):
             if isinstance(node.func, ast.Attribute):
                 self.assertIn(node.func.attr, BUILTIN_METHODS | own, f"{name}: {node.lineno}")
 
+    def test_no_name_is_a_method_and_an_attribute(self):
+        methods = {node.name for _, tree in nodes(ast.ClassDef) for node in tree.body if isinstance(node, ast.FunctionDef)}
+        stored = {node.attr for _, node in nodes(ast.Attribute) if isinstance(node.ctx, ast.Store)}
+        self.assertEqual(methods & stored, set())
+        called = {id(node.func) for _, node in nodes(ast.Call)}
+        for name, node in nodes(ast.Attribute):
+            if isinstance(node.ctx, ast.Load) and id(node) not in called:
+                self.assertIn(node.attr, stored, f"{name}: {node.lineno}")
+
+    def test_no_two_files_import_from_each_other(self):
+        ahead = {name: set() for name in FILES}
+        for name, node in nodes(ast.ImportFrom):
+            ahead[name].add(node.module.removeprefix("weave.") + ".py")
+        done = set()
+        while len(done) < len(ahead):
+            ready = {name for name, others in ahead.items() if others <= done} - done
+            self.assertTrue(ready, sorted(set(ahead) - done))
+            done |= ready
+
 
 if __name__ == "__main__":
     unittest.main()

@@ -11,6 +11,12 @@ from weave.weights import weighed
 OVERLAPS_MOST = 300
 
 
+def both_runs(stock, rules, overlap):
+    """What the runs from both outcomes of an overlap tell, the first one's first, or TooMany."""
+    one, other = outcomes(stock, rules, overlap)
+    return (run(rules, one), run(rules, other))
+
+
 def joins(stock, rules):
     """The tuple that tells whether rules join, part or are open, or TooMany."""
     word, numbers = weighed(stock, rules)
@@ -21,9 +27,7 @@ def joins(stock, rules):
         raise TooMany("there are too many overlaps")
     meets = []
     for overlap in found:
-        one, other = outcomes(stock, rules, overlap)
-        end, rows = run(rules, one)
-        other_end, other_rows = run(rules, other)
+        (end, rows), (other_end, other_rows) = both_runs(stock, rules, overlap)
         naming = naming_of(end, other_end)
         if naming is None:
             return ("parts", overlap, rows, other_rows, unlike_of(end, other_end))

@@ -55,14 +55,18 @@ def sharings_between(rules, number, other):
     return own_sharings(left) if number == other else sharings(left, rules[other][0])
 
 
+def overlaps_up_to(rules, other):
+    """The list of the overlaps of a rule with itself and with those ahead of it, in order."""
+    found = []
+    for number in range(other + 1):
+        for sharing in sharings_between(rules, number, other):
+            found.append((number, other, sharing))
+    return found
+
+
 def overlaps(rules):
     """The list of all overlaps of a list of rules, in order."""
-    found = []
-    for other in range(len(rules)):
-        for number in range(other + 1):
-            for sharing in sharings_between(rules, number, other):
-                found.append((number, other, sharing))
-    return found
+    return [overlap for other in range(len(rules)) for overlap in overlaps_up_to(rules, other)]
 
 
 def has_whole_numbers(thing):

@@ -14,31 +14,45 @@ def fits(net, links, left, place):
     return all(links[called(place, one)] == called(place, other) for one, other in inner_wires(left))
 
 
-def place_from(net, links, left, box):
-    """The place of a pattern of which the first box is that one, or None; links are those of the net's wires."""
-    names = {0: box}
+def ways_of(left):
+    """The list of tuples (port, box): along these ports one comes from box 0 of a pattern to each other box."""
     inner = links_of(inner_wires(left))
+    named = {0: True}
+    ways = []
     # A pattern hangs together by its inner wires, so each turn names one more of its boxes at least.
     for turn in range(1, len(left[1])):
-        for (own, port), (beside, there) in inner.items():
-            if own in names and beside not in names:
-                # A wire that leads to an outer, or isn't there, names no box of the net: this does not fit.
-                names[beside] = links.get((names[own], port), (OUTER, 0))[0]
+        for port, (beside, there) in inner.items():
+            if port[0] in named and beside not in named:
+                named[beside] = True
+                ways.append((port, beside))
+    return ways
+
+
+def place_from(net, links, left, ways, box):
+    """The place of a pattern of which the first box is that one, or None; links are those of the net's wires."""
+    names = {0: box}
+    for (own, port), beside in ways:
+        there = links.get((names[own], port), (OUTER, 0))[0]
+        # Most boxes are left out here, ahead of what takes longer.
+        if there == OUTER or net[1][there] != left[1][beside]:
+            return None
+        names[beside] = there
     place = tuple(names[own] for own in range(len(left[1])))
     return place if fits(net, links, left, place) else None
 
 
 def place_at(net, left, box):
     """The place of a pattern of which the first box is that box of the net, or None."""
-    return place_from(net, links_of(net[2]), left, box)
+    return place_from(net, links_of(net[2]), left, ways_of(left), box)
 
 
 def places_of(net, left):
     """The list of all places of a pattern, rising."""
     links = links_of(net[2])
+    ways = ways_of(left)
     # There is at most one place for each first box, so that places rise just as their first boxes do.
     firsts = [box for box, kind in enumerate(net[1]) if kind == left[1][0]]
-    found = [place_from(net, links, left, box) for box in firsts]
+    found = [place_from(net, links, left, ways, box) for box in firsts]
     return [place for place in found if place is not None]
 
 

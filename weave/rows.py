@@ -30,6 +30,17 @@ def walked(rules, net, rows):
     return nets
 
 
+def led_to(rules, net, rows):
+    """The net to which rows, of anything, lead from a net, or None where they are no list of rows from it."""
+    if not isinstance(rows, list):
+        return None
+    try:
+        nets = walked(rules, net, rows)
+    except NoRow:
+        return None
+    return nets[-1] if nets else net
+
+
 def moved(row, gone):
     """The row with its boxes called by their numbers where those of another place are gone."""
     number, place = row

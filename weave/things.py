@@ -24,3 +24,8 @@ def rises(things):
 def is_spelled(text, signs, most):
     """Whether a text has one to so many signs, all of them among those told."""
     return 1 <= len(text) <= most and all(sign in signs for sign in text)
+
+
+def itself(many):
+    """The tuple of so many numbers from 0 on: a naming of boxes by themselves, and the place of a net in itself."""
+    return tuple(range(many))

@@ -29,9 +29,9 @@ def falls(stock, weight, rule):
     return weighs(stock, weight, left) > weighs(stock, weight, right)
 
 
-def all_fall(stock, weight, rules):
-    """Whether all rules fall by a weight."""
-    return all(falls(stock, weight, rule) for rule in rules)
+def fall_by(stock, weight, rules):
+    """Whether it is a weight by which all rules fall, of anything."""
+    return is_weight(stock, weight) and all(falls(stock, weight, rule) for rule in rules)
 
 
 def lost(kind, rule):
@@ -114,7 +114,7 @@ def shows_weighed(stock, rules, thing):
         return False
     word, numbers = thing
     if word == "weight":
-        return is_weight(stock, numbers) and all_fall(stock, numbers, rules)
+        return fall_by(stock, numbers, rules)
     return word == "none" and are_times(stock, rules, numbers)
 
 
