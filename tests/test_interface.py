@@ -27,6 +27,22 @@ LISTED = {
     "glued": ("glued(stock, rules, overlap)", "outcomes(stock, rules, overlap)"),
     "ends": ("at_rest(rules, net)", "run(rules, net)"),
     "joins": ("joins(stock, rules)",),
+    "checker": ("lets_by(stock, rules, thing)",),
+    "complete": ("complete(stock, rules, weight, most)",),
+    "grown": ("lets_grown(stock, rules, weight, most, thing)",),
+    "least": ("made_least(stock, rules)", "is_least(rules)", "shows_least(stock, rules, thing)"),
+    "counts": ("keeps(stock, count, rule)", "base_of(stock, rules)", "parted(stock, rules, one, other)"),
+    "compared": ("compared(stock, rules, one, other)", "shows_compared(stock, rules, one, other, thing)"),
+    "keeper": ("Keeper(stock)",),
+    "desk": ("Desk(stock)",),
+}
+
+METHODS = {
+    ("keeper", "Keeper"): (
+        "put_rule(name, left, right)", "drop_rule(name)", "put_net(name, net)", "drop_net(name)", "lay(rule, net, place)",
+        "undo()", "rules()", "nets()", "places(rule, net)", "rest(net)", "joined()",
+    ),
+    ("desk", "Desk"): ("say(row)",),
 }
 
 
@@ -37,6 +53,18 @@ class InterfaceTest(unittest.TestCase):
             for told in listed:
                 word = told.partition("(")[0]
                 self.assertEqual(word + str(inspect.signature(getattr(module, word))), told)
+
+    def test_methods_stand_in_the_class_itself(self):
+        for (name, kind), listed in METHODS.items():
+            found = getattr(importlib.import_module("weave." + name), kind)
+            for told in listed:
+                word = told.partition("(")[0]
+                self.assertIn(word, vars(found))
+                shown = str(inspect.signature(vars(found)[word]))
+                self.assertEqual(word + shown.replace("(self, ", "(").replace("(self)", "()"), told)
+
+    def test_there_is_a_module_for_the_wording(self):
+        importlib.import_module("weave.wording")
 
 
 if __name__ == "__main__":
